@@ -1,0 +1,62 @@
+// Package words has what the texts of all layers are made of: lines, names and numbers.
+package words
+
+import (
+	"iter"
+	"strconv"
+	"strings"
+
+	"thatch/api"
+)
+
+// maxDigits is how many digits a number in a text may have.
+const maxDigits = 10
+
+// Lines yields the lines of a text with their numbers, from 1 on. What is behind the last line feed is a line unless it is empty.
+func Lines(text string) iter.Seq2[int, string] {
+	return func(yield func(int, string) bool) {
+		rest := text
+		for number := 1; rest != ""; number++ {
+			var line string
+			line, rest, _ = strings.Cut(rest, "\n")
+			if !yield(number, line) {
+				return
+			}
+		}
+	}
+}
+
+// IsName reports whether a word is a name.
+func IsName(word string) bool {
+	if len(word) < 1 || len(word) > api.MaxName {
+		return false
+	}
+	for i := range len(word) {
+		if c := word[i]; !isLetter(c) && (i == 0 || !isDigit(c) && c != '-') {
+			return false
+		}
+	}
+	return true
+}
+
+// Number returns the whole number that a word is, and whether it is one.
+func Number(word string) (int, bool) {
+	digits := strings.TrimPrefix(word, "-")
+	if len(digits) < 1 || len(digits) > maxDigits {
+		return 0, false
+	}
+	for i := range len(digits) {
+		if !isDigit(digits[i]) {
+			return 0, false
+		}
+	}
+	if digits[0] == '0' && word != "0" {
+		return 0, false
+	}
+	number, err := strconv.Atoi(word)
+	return number, err == nil
+}
+
+func isLetter(c byte) bool { return 'a' <= c && c <= 'z' }
+
+func isDigit(c byte) bool { return '0' <= c && c <= '9' }

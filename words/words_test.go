@@ -1,0 +1,74 @@
+package words_test
+
+import (
+	"slices"
+	"strings"
+	"testing"
+
+	"thatch/words"
+)
+
+func TestLines(t *testing.T) {
+	for _, c := range []struct {
+		text string
+		want []string
+	}{
+		{"", nil},
+		{"\n", []string{""}},
+		{"a", []string{"a"}},
+		{"a\n", []string{"a"}},
+		{"a\nb", []string{"a", "b"}},
+		{"a\n\nb\n\n", []string{"a", "", "b", ""}},
+		{"a\r\n b", []string{"a\r", " b"}},
+	} {
+		var got []string
+		for number, line := range words.Lines(c.text) {
+			got = append(got, line)
+			if number != len(got) {
+				t.Errorf("%q: line %d has the number %d", c.text, len(got), number)
+			}
+		}
+		if !slices.Equal(got, c.want) {
+			t.Errorf("%q: %q", c.text, got)
+		}
+	}
+}
+
+func TestLinesStop(t *testing.T) {
+	count := 0
+	for range words.Lines("a\nb\nc") {
+		count++
+		if count == 2 {
+			break
+		}
+	}
+	if count != 2 {
+		t.Error(count)
+	}
+}
+
+func TestIsName(t *testing.T) {
+	for _, word := range []string{"a", "z", "az", "a-", "a--b", "a0", "z9-x", strings.Repeat("q", 16)} {
+		if !words.IsName(word) {
+			t.Errorf("%q is none", word)
+		}
+	}
+	for _, word := range []string{"", "-", "-a", "0", "9a", "A", "aB", "a b", "a_", "a.", "a/", "a:", "a`", "a{", "`", "{", "é", "aé", "a\x00", "a\n", "a\xff", strings.Repeat("q", 17)} {
+		if words.IsName(word) {
+			t.Errorf("%q is one", word)
+		}
+	}
+}
+
+func TestNumber(t *testing.T) {
+	for word, want := range map[string]int{"0": 0, "1": 1, "9": 9, "-1": -1, "10": 10, "907": 907, "9999999999": 9999999999, "-9999999999": -9999999999} {
+		if n, ok := words.Number(word); !ok || n != want {
+			t.Errorf("%q: %d %t", word, n, ok)
+		}
+	}
+	for _, word := range []string{"", "-", "-0", "00", "01", "-01", "+1", "--1", "1-", "1 ", " 1", "1.0", "1e2", "0x1", "1_0", "a", "1/", "1:", "10000000000", "-10000000000", "00000000001", strings.Repeat("1", 400), "１"} {
+		if n, ok := words.Number(word); ok || n != 0 {
+			t.Errorf("%q: %d %t", word, n, ok)
+		}
+	}
+}
