@@ -2,7 +2,6 @@ package roof
 
 import (
 	"slices"
-	"strconv"
 	"strings"
 
 	"thatch/api"
@@ -16,24 +15,18 @@ func write(r api.Roof) string {
 	var text strings.Builder
 	for _, f := range r.Faces {
 		text.WriteString("face " + f.Name + " " + sideWords()[f.Side-api.SiSouth])
-		writeNumbers(&text, f.Foot, f.Base, f.Rise, f.Run)
+		words.WriteNumbers(&text, f.Foot, f.Base, f.Rise, f.Run)
 		for _, p := range f.Corners {
-			writeNumbers(&text, p.X, p.Y)
+			words.WriteNumbers(&text, p.X, p.Y)
 		}
 		text.WriteString("\n")
 	}
 	for _, o := range r.Opens {
 		text.WriteString("open " + o.Name + " " + r.Faces[o.Face].Name)
-		writeNumbers(&text, o.Low.X, o.Low.Y, o.High.X, o.High.Y)
+		words.WriteNumbers(&text, o.Low.X, o.Low.Y, o.High.X, o.High.Y)
 		text.WriteString("\n")
 	}
 	return text.String()
-}
-
-func writeNumbers(text *strings.Builder, numbers ...int) {
-	for _, n := range numbers {
-		text.WriteString(" " + strconv.Itoa(n))
-	}
 }
 
 // wrongLine is what a reader panics with, and read recovers.
@@ -108,13 +101,9 @@ func (d *reader) readOpen(parts []string) {
 }
 
 func (d *reader) numbers(parts []string) []int {
-	list := make([]int, len(parts))
-	for i, s := range parts {
-		n, ok := words.Number(s)
-		if !ok {
-			d.fail(api.ErrForm)
-		}
-		list[i] = n
+	list, ok := words.Numbers(parts)
+	if !ok {
+		d.fail(api.ErrForm)
 	}
 	return list
 }

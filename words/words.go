@@ -57,6 +57,26 @@ func Number(word string) (int, bool) {
 	return number, err == nil
 }
 
+// Numbers returns the whole numbers that words are, and whether each of them is one.
+func Numbers(list []string) ([]int, bool) {
+	numbers := make([]int, len(list))
+	for i, word := range list {
+		n, ok := Number(word)
+		if !ok {
+			return nil, false
+		}
+		numbers[i] = n
+	}
+	return numbers, true
+}
+
+// WriteNumbers adds numbers to a line, each with a blank ahead of it.
+func WriteNumbers(text *strings.Builder, numbers ...int) {
+	for _, n := range numbers {
+		text.WriteString(" " + strconv.Itoa(n))
+	}
+}
+
 func isLetter(c byte) bool { return 'a' <= c && c <= 'z' }
 
 func isDigit(c byte) bool { return '0' <= c && c <= '9' }

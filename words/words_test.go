@@ -72,3 +72,28 @@ func TestNumber(t *testing.T) {
 		}
 	}
 }
+
+func TestNumbers(t *testing.T) {
+	if l, ok := words.Numbers([]string{"1", "-20", "0"}); !ok || !slices.Equal(l, []int{1, -20, 0}) {
+		t.Error(l, ok)
+	}
+	if l, ok := words.Numbers(nil); !ok || len(l) != 0 {
+		t.Error(l, ok)
+	}
+	for _, list := range [][]string{{""}, {"x", "1"}, {"1", "01"}, {"1", "-0", "1"}} {
+		if l, ok := words.Numbers(list); ok || l != nil {
+			t.Errorf("%q: %v %t", list, l, ok)
+		}
+	}
+}
+
+func TestWriteNumbers(t *testing.T) {
+	var text strings.Builder
+	text.WriteString("a")
+	words.WriteNumbers(&text)
+	words.WriteNumbers(&text, 1, -20)
+	words.WriteNumbers(&text, 0)
+	if text.String() != "a 1 -20 0" {
+		t.Errorf("%q", text.String())
+	}
+}
