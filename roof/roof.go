@@ -1,7 +1,10 @@
 // Package roof is layer 1: it has the shape of a roof: faces that fall to one of four sides, with outlines of whole numbers in plan. It tells heights, the kinds of edges, where a point is, and where water goes that runs down a face. See shared/doc/01-roof.md.
 package roof
 
-import "thatch/api"
+import (
+	"thatch/api"
+	"thatch/words"
+)
 
 // Check returns the first error of a roof, or OK: the roof may be.
 func Check(r api.Roof) api.Errno {
@@ -112,30 +115,11 @@ func Stands(r api.Roof) ([]int, api.Errno) {
 }
 
 // Print returns the text of a roof.
-func Print(r api.Roof) (string, api.Errno) {
-	if e := Check(r); e != api.OK {
-		return "", e
-	}
-	text := write(r)
-	if len(text) > api.MaxText {
-		return "", api.ErrLimit
-	}
-	return text, api.OK
-}
+func Print(r api.Roof) (string, api.Errno) { return words.Print(r, Check, write) }
 
 // Parse returns the roof of a text, or the number of the first line that is wrong, 0 if the error is none of a line.
 func Parse(text string) (r api.Roof, line int, e api.Errno) {
-	if len(text) > api.MaxText {
-		return api.Roof{}, 0, api.ErrLimit
-	}
-	r, line, e = read(text)
-	if e != api.OK {
-		return api.Roof{}, line, e
-	}
-	if e := Check(r); e != api.OK {
-		return api.Roof{}, 0, e
-	}
-	return r, 0, api.OK
+	return words.Parse(text, read, Check)
 }
 
 func hasFace(r api.Roof, face int) bool { return face >= 0 && face < len(r.Faces) }

@@ -1,4 +1,4 @@
-// Package words has what the texts of all layers are made of: lines, names and numbers.
+// Package words has what the texts of all layers are made of: lines, names and numbers; and how such a text is printed and parsed.
 package words
 
 import (
@@ -24,6 +24,34 @@ func Lines(text string) iter.Seq2[int, string] {
 			}
 		}
 	}
+}
+
+// Print returns the text of a value, if it is one that may be.
+func Print[T any](value T, check func(T) api.Errno, write func(T) string) (string, api.Errno) {
+	if e := check(value); e != api.OK {
+		return "", e
+	}
+	text := write(value)
+	if len(text) > api.MaxText {
+		return "", api.ErrLimit
+	}
+	return text, api.OK
+}
+
+// Parse returns the value of a text, if it is one that may be, or the number of the first line that is wrong, 0 if the error is none of a line.
+func Parse[T any](text string, read func(string) (T, int, api.Errno), check func(T) api.Errno) (T, int, api.Errno) {
+	var none T
+	if len(text) > api.MaxText {
+		return none, 0, api.ErrLimit
+	}
+	value, line, e := read(text)
+	if e != api.OK {
+		return none, line, e
+	}
+	if e := check(value); e != api.OK {
+		return none, 0, e
+	}
+	return value, 0, api.OK
 }
 
 // IsName reports whether a word is a name.

@@ -5,6 +5,7 @@ import (
 	"strings"
 	"testing"
 
+	"thatch/api"
 	"thatch/words"
 )
 
@@ -95,5 +96,60 @@ func TestWriteNumbers(t *testing.T) {
 	words.WriteNumbers(&text, 0)
 	if text.String() != "a 1 -20 0" {
 		t.Errorf("%q", text.String())
+	}
+}
+
+// even is a check that numbers pass if they are even.
+func even(n int) api.Errno {
+	if n%2 != 0 {
+		return api.ErrState
+	}
+	return api.OK
+}
+
+func TestPrint(t *testing.T) {
+	long := func(n int) string { return strings.Repeat("x", n) }
+	for _, c := range []struct {
+		n    int
+		want api.Errno
+	}{
+		{0, api.OK},
+		{2, api.OK},
+		{api.MaxText, api.OK},
+		{3, api.ErrState},
+		{api.MaxText + 1, api.ErrState},
+		{api.MaxText + 2, api.ErrLimit},
+	} {
+		text, e := words.Print(c.n, even, long)
+		if e != c.want || e == api.OK && text != long(c.n) || e != api.OK && text != "" {
+			t.Error(c.n, len(text), e)
+		}
+	}
+}
+
+func TestParse(t *testing.T) {
+	read := func(text string) (int, int, api.Errno) {
+		if strings.Contains(text, "?") {
+			return 44, 7, api.ErrForm
+		}
+		return len(text), 0, api.OK
+	}
+	for _, c := range []struct {
+		text    string
+		n, line int
+		want    api.Errno
+	}{
+		{"", 0, 0, api.OK},
+		{"xx", 2, 0, api.OK},
+		{"xxx", 0, 0, api.ErrState},
+		{"xx?", 0, 7, api.ErrForm},
+		{"x?", 0, 7, api.ErrForm},
+		{strings.Repeat("x", api.MaxText), api.MaxText, 0, api.OK},
+		{strings.Repeat("x", api.MaxText+2), 0, 0, api.ErrLimit},
+		{strings.Repeat("?", api.MaxText+1), 0, 0, api.ErrLimit},
+	} {
+		if n, line, e := words.Parse(c.text, read, even); n != c.n || line != c.line || e != c.want {
+			t.Error(len(c.text), n, line, e)
+		}
 	}
 }

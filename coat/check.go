@@ -1,0 +1,129 @@
+package coat
+
+import (
+	"iter"
+	"slices"
+
+	"thatch/api"
+)
+
+// finestRow is the greatest divisor of the height of a row.
+const finestRow = 1000
+
+func checkOutline(outline []api.Pt) api.Errno {
+	if len(outline) > api.MaxCorners {
+		return api.ErrLimit
+	}
+	if len(outline) < 3 {
+		return api.ErrArg
+	}
+	for _, p := range outline {
+		if !isPoint(p) {
+			return api.ErrArg
+		}
+	}
+	for i, p := range outline {
+		if slices.Contains(outline[:i], p) {
+			return api.ErrTwice
+		}
+	}
+	if !isConvex(outline) {
+		return api.ErrScope
+	}
+	return api.OK
+}
+
+func checkHole(h api.Box, ahead []api.Box, outline []api.Pt) api.Errno {
+	if h.From.U >= h.To.U || h.From.V >= h.To.V {
+		return api.ErrArg
+	}
+	for _, p := range [4]api.Pt{h.From, {U: h.To.U, V: h.From.V}, h.To, {U: h.From.U, V: h.To.V}} {
+		if !isWithin(outline, p) {
+			return api.ErrScope
+		}
+	}
+	if slices.ContainsFunc(ahead, func(b api.Box) bool { return boxesMeet(b, h) }) {
+		return api.ErrClash
+	}
+	return api.OK
+}
+
+// around yields the sides of an outline: from each corner to the next one.
+func around(outline []api.Pt) iter.Seq2[api.Pt, api.Pt] {
+	return func(yield func(api.Pt, api.Pt) bool) {
+		for i, from := range outline {
+			if !yield(from, outline[(i+1)%len(outline)]) {
+				return
+			}
+		}
+	}
+}
+
+// leftOf is above 0 for a point to the left of the line between two others, 0 on it and below 0 to its right.
+func leftOf(from, to, p api.Pt) int {
+	return (to.U-from.U)*(p.V-from.V) - (to.V-from.V)*(p.U-from.U)
+}
+
+func isConvex(outline []api.Pt) bool {
+	flat := true
+	for from, to := range around(outline) {
+		for _, p := range outline {
+			left := leftOf(from, to, p)
+			if left < 0 {
+				return false
+			}
+			flat = flat && left == 0
+		}
+	}
+	return !flat
+}
+
+// isWithin reports whether a point is strictly inside of an outline. It looks at the limits first: a hole may have any numbers, and their products need not fit.
+func isWithin(outline []api.Pt, p api.Pt) bool {
+	if !isPoint(p) {
+		return false
+	}
+	for from, to := range around(outline) {
+		if leftOf(from, to, p) <= 0 {
+			return false
+		}
+	}
+	return true
+}
+
+// boxesMeet reports whether two boxes have a point in common, their edges included.
+func boxesMeet(a, b api.Box) bool {
+	return a.From.U <= b.To.U && b.From.U <= a.To.U && a.From.V <= b.To.V && b.From.V <= a.To.V
+}
+
+func areBundles(list []api.Bundle) bool {
+	return !slices.ContainsFunc(list, func(b api.Bundle) bool { return !isBundle(b) })
+}
+
+// isBundle compares Taper with half of Width: twice any number need not fit.
+func isBundle(b api.Bundle) bool {
+	return isFrom(b.U, -api.MaxPlace, api.MaxPlace) &&
+		isFrom(b.Width, 1, api.MaxWidth) &&
+		isFrom(b.Length, 1, api.MaxLength) &&
+		isFrom(b.Lean, -api.MaxLean, api.MaxLean) &&
+		isFrom(b.Taper, 0, (b.Width-1)/2) &&
+		isFrom(b.Thick, 1, api.MaxThick)
+}
+
+func isSpot(s api.Spot) bool { return isPlace(s.U, api.MaxFiner) && isPlace(s.V, api.MaxFine) }
+
+// isPlace reports whether a quotient is a place of a face, in lowest terms, with a divisor up to finest.
+func isPlace(r api.Ratio, finest int) bool {
+	return isFrom(r.Den, 1, finest) && isFrom(r.Num, 0, api.MaxPlace*r.Den) && r == api.Ratio(lowestTerms(r.Num, r.Den))
+}
+
+func isPoint(p api.Pt) bool {
+	return isFrom(p.U, 0, api.MaxPlace) && isFrom(p.V, 0, api.MaxPlace)
+}
+
+// isSpan reports whether s is a span of numbers from low to high.
+func isSpan(s api.Span, low, high int) bool {
+	return low <= s.Low && s.Low <= s.High && s.High <= high
+}
+
+func isFrom(n, low, high int) bool { return low <= n && n <= high }
