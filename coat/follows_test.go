@@ -7,9 +7,10 @@ import (
 
 	"thatch/api"
 	"thatch/coat"
+	"thatch/roof"
 )
 
-// P3.6 (cover), and what the coats of P3.3 have over them.
+// P3.6 (cover), what the coats of P3.3 have over them, and P0.1 (together).
 
 func layersOf(t *testing.T, a api.Area, c api.Coat) (layers, thick int) {
 	t.Helper()
@@ -293,5 +294,26 @@ func TestWornIsThickEnough(t *testing.T) {
 				t.Fatal(c, take, s, got, want)
 			}
 		}
+	}
+}
+
+// A face of a roof is an area that can be laid.
+func TestFacesAreLaid(t *testing.T) {
+	r, _, e := roof.Parse("face s south 0 300 1 1 0 0 60 0 40 20 20 20\nface e east 60 300 1 1 60 0 60 40 40 20\n" +
+		"face n north 40 300 1 1 60 40 0 40 20 20 40 20\nface w west 0 300 1 1 0 40 0 0 20 20\n" +
+		"open a s 25 5 35 15\nopen b e 50 15 58 25\nopen c n 25 25 28 35\nopen d n 29 25 31 30\nopen f w 3 15 10 20\n")
+	if e != api.OK {
+		t.Fatal(e)
+	}
+	for i := range r.Faces {
+		a, e := roof.Lay(r, i)
+		if f := coat.CheckArea(a); e != api.OK || f != api.OK || len(a.Holes) == 0 {
+			t.Fatal(i, a, e, f)
+		}
+		c, e := coat.Lay(a, layCustom(), layMake())
+		if e != api.OK {
+			t.Fatal(i, a, e)
+		}
+		isBroken(t, a, layCustom(), c, api.Breach{})
 	}
 }
