@@ -5,6 +5,7 @@ import (
 	"slices"
 
 	"thatch/api"
+	"thatch/numbers"
 )
 
 // finestRow is the greatest divisor of the height of a row.
@@ -102,28 +103,21 @@ func areBundles(list []api.Bundle) bool {
 
 // isBundle compares Taper with half of Width: twice any number need not fit.
 func isBundle(b api.Bundle) bool {
-	return isFrom(b.U, -api.MaxPlace, api.MaxPlace) &&
-		isFrom(b.Width, 1, api.MaxWidth) &&
-		isFrom(b.Length, 1, api.MaxLength) &&
-		isFrom(b.Lean, -api.MaxLean, api.MaxLean) &&
-		isFrom(b.Taper, 0, (b.Width-1)/2) &&
-		isFrom(b.Thick, 1, api.MaxThick)
+	return numbers.IsFrom(b.U, -api.MaxPlace, api.MaxPlace) &&
+		numbers.IsFrom(b.Width, 1, api.MaxWidth) &&
+		numbers.IsFrom(b.Length, 1, api.MaxLength) &&
+		numbers.IsFrom(b.Lean, -api.MaxLean, api.MaxLean) &&
+		numbers.IsFrom(b.Taper, 0, (b.Width-1)/2) &&
+		numbers.IsFrom(b.Thick, 1, api.MaxThick)
 }
 
 func isSpot(s api.Spot) bool { return isPlace(s.U, api.MaxFiner) && isPlace(s.V, api.MaxFine) }
 
 // isPlace reports whether a quotient is a place of a face, in lowest terms, with a divisor up to finest.
 func isPlace(r api.Ratio, finest int) bool {
-	return isFrom(r.Den, 1, finest) && isFrom(r.Num, 0, api.MaxPlace*r.Den) && r == api.Ratio(lowestTerms(r.Num, r.Den))
+	return numbers.IsFrom(r.Den, 1, finest) && numbers.IsFrom(r.Num, 0, api.MaxPlace*r.Den) && r == numbers.LowestTerms(r.Num, r.Den)
 }
 
 func isPoint(p api.Pt) bool {
-	return isFrom(p.U, 0, api.MaxPlace) && isFrom(p.V, 0, api.MaxPlace)
+	return numbers.IsFrom(p.U, 0, api.MaxPlace) && numbers.IsFrom(p.V, 0, api.MaxPlace)
 }
-
-// isSpan reports whether s is a span of numbers from low to high.
-func isSpan(s api.Span, low, high int) bool {
-	return low <= s.Low && s.Low <= s.High && s.High <= high
-}
-
-func isFrom(n, low, high int) bool { return low <= n && n <= high }

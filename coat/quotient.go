@@ -4,19 +4,13 @@ import (
 	"cmp"
 
 	"thatch/api"
+	"thatch/numbers"
 )
 
 // quotient is an api.Ratio that can be reckoned with. It is in lowest terms, so that equal ones are one key of a map.
 type quotient api.Ratio
 
-// lowestTerms wants a den above 0.
-func lowestTerms(num, den int) quotient {
-	a, b := max(num, -num), den
-	for b != 0 {
-		a, b = b, a%b
-	}
-	return quotient{Num: num / a, Den: den / a}
-}
+func lowestTerms(num, den int) quotient { return quotient(numbers.LowestTerms(num, den)) }
 
 func whole(n int) quotient { return quotient{Num: n, Den: 1} }
 

@@ -4,6 +4,7 @@ import (
 	"slices"
 
 	"thatch/api"
+	"thatch/numbers"
 )
 
 // laidWrong returns the first rule, but for the one of layers, that is broken.
@@ -30,11 +31,11 @@ func laidWrong(m api.Custom, courses []api.Course) api.Breach {
 func bundleWrong(m api.Custom, course []api.Bundle, number int, below []api.Bundle) api.BreachKind {
 	b := course[number]
 	switch {
-	case !isFrom(b.Lean, -m.Lean, m.Lean):
+	case !numbers.IsFrom(b.Lean, -m.Lean, m.Lean):
 		return api.BrLean
 	case number > 0 && !isBeside(m, course[number-1], b):
 		return api.BrSide
-	case slices.ContainsFunc(below, func(o api.Bundle) bool { return isFrom(b.U-o.U, 1-m.Break, m.Break-1) }):
+	case slices.ContainsFunc(below, func(o api.Bundle) bool { return numbers.IsFrom(b.U-o.U, 1-m.Break, m.Break-1) }):
 		return api.BrBreak
 	}
 	return api.BrNone
@@ -42,7 +43,7 @@ func bundleWrong(m api.Custom, course []api.Bundle, number int, below []api.Bund
 
 // isBeside reports whether a bundle lies to the right of the one before it, and overlaps it by enough.
 func isBeside(m api.Custom, before, b api.Bundle) bool {
-	return isFrom(b.U, before.U, before.U+before.Width-m.Side)
+	return numbers.IsFrom(b.U, before.U, before.U+before.Width-m.Side)
 }
 
-func isAmong(s api.Span, n int) bool { return isFrom(n, s.Low, s.High) }
+func isAmong(s api.Span, n int) bool { return numbers.IsFrom(n, s.Low, s.High) }

@@ -4,6 +4,7 @@ import (
 	"slices"
 
 	"thatch/api"
+	"thatch/numbers"
 	"thatch/words"
 )
 
@@ -13,11 +14,11 @@ func checkFace(f api.Face, ahead []api.Face) api.Errno {
 		return api.ErrName
 	case findFace(ahead, f.Name) >= 0:
 		return api.ErrTwice
-	case !isFrom(f.Side, api.SiSouth, api.SiWest):
+	case !numbers.IsFrom(f.Side, api.SiSouth, api.SiWest):
 		return api.ErrArg
-	case !isFrom(f.Foot, 0, api.MaxPlan) || !isFrom(f.Base, 0, api.MaxPlan):
+	case !numbers.IsFrom(f.Foot, 0, api.MaxPlan) || !numbers.IsFrom(f.Base, 0, api.MaxPlan):
 		return api.ErrArg
-	case !isFrom(f.Rise, 1, api.MaxPitch) || !isFrom(f.Run, 1, api.MaxPitch):
+	case !numbers.IsFrom(f.Rise, 1, api.MaxPitch) || !numbers.IsFrom(f.Run, 1, api.MaxPitch):
 		return api.ErrArg
 	}
 	return checkOutline(f.Corners)
@@ -52,7 +53,7 @@ func checkOpen(o api.Open, ahead []api.Open, faces []api.Face) api.Errno {
 		return api.ErrName
 	case slices.ContainsFunc(ahead, func(a api.Open) bool { return a.Name == o.Name }):
 		return api.ErrTwice
-	case !isFrom(o.Face, 0, len(faces)-1):
+	case !numbers.IsFrom(o.Face, 0, len(faces)-1):
 		return api.ErrNone
 	case o.Low.X >= o.High.X || o.Low.Y >= o.High.Y:
 		return api.ErrArg
@@ -110,7 +111,5 @@ func findFace(faces []api.Face, name string) int {
 }
 
 func inPlan(p api.At) bool {
-	return isFrom(p.X, 0, api.MaxPlan) && isFrom(p.Y, 0, api.MaxPlan)
+	return numbers.IsFrom(p.X, 0, api.MaxPlan) && numbers.IsFrom(p.Y, 0, api.MaxPlan)
 }
-
-func isFrom[N ~int](n, low, high N) bool { return low <= n && n <= high }

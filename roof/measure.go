@@ -1,6 +1,9 @@
 package roof
 
-import "thatch/api"
+import (
+	"thatch/api"
+	"thatch/numbers"
+)
 
 // ownMeasure returns how points of the plan are seen by somebody who looks up a face that falls to this side: U to the right, V up. All four turn the plan and mirror nothing, so left and right of a line stay.
 func ownMeasure(s api.Side) func(api.At) api.Pt {
@@ -17,16 +20,7 @@ func ownMeasure(s api.Side) func(api.At) api.Pt {
 func heightAt(f api.Face, p api.At) api.Ratio {
 	own := ownMeasure(f.Side)
 	up := own(p).V - own(api.At{X: f.Foot, Y: f.Foot}).V
-	return lowestTerms(f.Base*f.Run+f.Rise*up, f.Run)
-}
-
-// lowestTerms wants a den above 0.
-func lowestTerms(num, den int) api.Ratio {
-	a, b := max(num, -num), den
-	for b != 0 {
-		a, b = b, a%b
-	}
-	return api.Ratio{Num: num / a, Den: den / a}
+	return numbers.LowestTerms(f.Base*f.Run+f.Rise*up, f.Run)
 }
 
 func compare(a, b api.Ratio) sign { return signOf(a.Num*b.Den - b.Num*a.Den) }

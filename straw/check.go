@@ -4,6 +4,7 @@ import (
 	"slices"
 
 	"thatch/api"
+	"thatch/numbers"
 	"thatch/words"
 )
 
@@ -16,9 +17,9 @@ func checkPlot(p api.Plot, ahead []api.Plot) api.Errno {
 		return api.ErrName
 	case slices.ContainsFunc(ahead, func(a api.Plot) bool { return a.Name == p.Name }):
 		return api.ErrTwice
-	case !isCrop(p.Crop) || !isFrom(p.Size, 1, api.MaxField) || !isSpan(p.Yield, 0, api.MaxYield):
+	case !isCrop(p.Crop) || !numbers.IsFrom(p.Size, 1, api.MaxField) || !numbers.IsSpan(p.Yield, 0, api.MaxYield):
 		return api.ErrArg
-	case !isFrom(p.Rest, 1, api.MaxYear) || !isSpan(p.Wet, 0, wettest) || !isFrom(p.Cost, 0, api.MaxMown):
+	case !numbers.IsFrom(p.Rest, 1, api.MaxYear) || !numbers.IsSpan(p.Wet, 0, wettest) || !numbers.IsFrom(p.Cost, 0, api.MaxMown):
 		return api.ErrArg
 	}
 	return api.OK
@@ -30,11 +31,11 @@ func mayBe(f api.Farm, s api.Store) bool {
 }
 
 func areYears(f api.Farm, s api.Store) bool {
-	if !isFrom(s.Year, 0, api.MaxYear) || len(s.Last) != len(f.Plots) {
+	if !numbers.IsFrom(s.Year, 0, api.MaxYear) || len(s.Last) != len(f.Plots) {
 		return false
 	}
 	for _, year := range s.Last {
-		if !isFrom(year, -1, s.Year) {
+		if !numbers.IsFrom(year, -1, s.Year) {
 			return false
 		}
 	}
@@ -54,7 +55,7 @@ func areHeaps(f api.Farm, heaps []api.Heap) bool {
 }
 
 func isHeap(f api.Farm, h api.Heap) bool {
-	if !words.IsName(h.Name) || !isCrop(h.Crop) || !isFrom(h.Stage, api.HpCut, api.HpBound) || !isSpan(h.Wet, 0, wettest) {
+	if !words.IsName(h.Name) || !isCrop(h.Crop) || !numbers.IsFrom(h.Stage, api.HpCut, api.HpBound) || !numbers.IsSpan(h.Wet, 0, wettest) {
 		return false
 	}
 	if len(h.Parts) == 0 || !areParts(f, h.Parts) {
@@ -66,13 +67,13 @@ func isHeap(f api.Farm, h api.Heap) bool {
 	if h.Stage != api.HpBound {
 		return h.Per == 0
 	}
-	return isFrom(h.Per, 1, api.MaxPer) && loadsOf(h.Parts)%h.Per == 0
+	return numbers.IsFrom(h.Per, 1, api.MaxPer) && loadsOf(h.Parts)%h.Per == 0
 }
 
 // areParts reports whether parts are of fields of the farm, and in order.
 func areParts(f api.Farm, parts []api.Portion) bool {
 	for i, p := range parts {
-		if !isFrom(p.Plot, 0, len(f.Plots)-1) || !isFrom(p.Loads, 1, api.MaxLoads) {
+		if !numbers.IsFrom(p.Plot, 0, len(f.Plots)-1) || !numbers.IsFrom(p.Loads, 1, api.MaxLoads) {
 			return false
 		}
 		if i > 0 && parts[i-1].Plot == p.Plot {
@@ -122,11 +123,4 @@ func findHeap(heaps []api.Heap, name string) int {
 	return slices.IndexFunc(heaps, func(h api.Heap) bool { return h.Name == name })
 }
 
-func isCrop(c api.Crop) bool { return isFrom(c, api.CrReed, api.CrHeather) }
-
-// isSpan reports whether s is a span of numbers from low to high.
-func isSpan(s api.Span, low, high int) bool {
-	return low <= s.Low && s.Low <= s.High && s.High <= high
-}
-
-func isFrom[N ~int](n, low, high N) bool { return low <= n && n <= high }
+func isCrop(c api.Crop) bool { return numbers.IsFrom(c, api.CrReed, api.CrHeather) }

@@ -4,6 +4,7 @@ import (
 	"slices"
 
 	"thatch/api"
+	"thatch/numbers"
 	"thatch/words"
 )
 
@@ -78,11 +79,11 @@ func (h *hand) year(api.Chore) {
 
 func (h *hand) cut(a api.Chore) {
 	s := &h.store
-	require(isFrom(a.Plot, 0, len(h.farm.Plots)-1), api.ErrNone)
+	require(numbers.IsFrom(a.Plot, 0, len(h.farm.Plots)-1), api.ErrNone)
 	h.requireNew(a.Name)
 	p := h.farm.Plots[a.Plot]
 	require(s.Last[a.Plot] < 0 || s.Last[a.Plot] <= s.Year-p.Rest, api.ErrState)
-	require(a.Loads != 0 && isFrom(a.Loads, p.Size*p.Yield.Low, p.Size*p.Yield.High), api.ErrArg)
+	require(a.Loads != 0 && numbers.IsFrom(a.Loads, p.Size*p.Yield.Low, p.Size*p.Yield.High), api.ErrArg)
 	require(len(s.Heaps) < api.MaxHeaps && allLoads(*s)+a.Loads <= api.MaxLoads, api.ErrLimit)
 	s.Last[a.Plot] = s.Year
 	s.Given[a.Plot] += a.Loads
@@ -93,7 +94,7 @@ func (h *hand) cut(a api.Chore) {
 func (h *hand) dry(a api.Chore) {
 	heap := &h.store.Heaps[h.find(a.Name)]
 	require(heap.Stage != api.HpBound, api.ErrState)
-	require(isFrom(a.Days, 0, mostDays) && isSpan(a.Rain, 0, mostRains), api.ErrArg)
+	require(numbers.IsFrom(a.Days, 0, mostDays) && numbers.IsSpan(a.Rain, 0, mostRains), api.ErrArg)
 	low := heap.Wet.Low - mostDried*a.Days + leastWet*a.Rain.Low
 	high := heap.Wet.High - leastDried*a.Days + mostWet*a.Rain.High
 	heap.Wet = api.Span{Low: moisture(low), High: moisture(high)}
@@ -103,7 +104,7 @@ func (h *hand) comb(a api.Chore) {
 	i := h.find(a.Name)
 	heap := &h.store.Heaps[i]
 	require(heap.Stage == api.HpCut && h.isDry(*heap), api.ErrState)
-	require(isFrom(a.Loads, 0, loadsOf(heap.Parts)-1), api.ErrArg)
+	require(numbers.IsFrom(a.Loads, 0, loadsOf(heap.Parts)-1), api.ErrArg)
 	heap.Stage = api.HpCombed
 	h.store.Waste = h.move(i, a.Loads, h.store.Waste)
 }
@@ -123,7 +124,7 @@ func (h *hand) bind(a api.Chore) {
 	h.requireNew(a.Other)
 	heap := h.store.Heaps[i]
 	require(heap.Stage == api.HpCombed && h.isDry(heap), api.ErrState)
-	require(isFrom(a.Per, 1, api.MaxPer), api.ErrArg)
+	require(numbers.IsFrom(a.Per, 1, api.MaxPer), api.ErrArg)
 	loads := loadsOf(heap.Parts)
 	over := loads % a.Per
 	require(loads >= a.Per, api.ErrScope)
@@ -138,7 +139,7 @@ func (h *hand) use(a api.Chore) {
 	i := h.find(a.Name)
 	heap := h.store.Heaps[i]
 	require(heap.Stage == api.HpBound, api.ErrState)
-	require(isFrom(a.Loads, 1, loadsOf(heap.Parts)/heap.Per), api.ErrArg)
+	require(numbers.IsFrom(a.Loads, 1, loadsOf(heap.Parts)/heap.Per), api.ErrArg)
 	h.store.Used = h.move(i, a.Loads*heap.Per, h.store.Used)
 }
 
