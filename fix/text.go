@@ -1,0 +1,71 @@
+package fix
+
+import (
+	"slices"
+	"strings"
+
+	"thatch/api"
+	"thatch/words"
+)
+
+func write(n api.Net) string {
+	var text strings.Builder
+	for _, x := range n.Things {
+		kind := " hung"
+		if x.Ground {
+			kind = " ground"
+		}
+		text.WriteString("thing " + x.Name + kind)
+		words.WriteNumbers(&text, x.Weight, x.Bears)
+		text.WriteString("\n")
+	}
+	for _, t := range n.Ties {
+		text.WriteString("tie " + n.Things[t.From].Name + " " + n.Things[t.To].Name)
+		words.WriteNumbers(&text, t.Most)
+		text.WriteString("\n")
+	}
+	return text.String()
+}
+
+// read returns the net of a text, which need not be one that may be, or the line that is wrong.
+func read(text string) (n api.Net, line int, e api.Errno) {
+	defer func() {
+		if wrong, ok := recover().(api.Errno); ok {
+			e = wrong
+		}
+	}()
+	var d api.Net
+	for number, s := range words.Lines(text) {
+		line = number
+		readLine(&d, strings.Split(s, " "))
+	}
+	return d, 0, api.OK
+}
+
+func readLine(n *api.Net, parts []string) {
+	require(!slices.Contains(parts, ""), api.ErrForm)
+	switch {
+	case parts[0] == "thing" && len(n.Ties) == 0:
+		n.Things = append(n.Things, readThing(parts[1:]))
+	case parts[0] == "tie":
+		n.Ties = append(n.Ties, readTie(n.Things, parts[1:]))
+	default:
+		panic(api.ErrForm)
+	}
+}
+
+func readThing(parts []string) api.Thing {
+	require(len(parts) == 4 && (parts[1] == "ground" || parts[1] == "hung"), api.ErrForm)
+	numbers, ok := words.Numbers(parts[2:])
+	require(ok, api.ErrForm)
+	return api.Thing{Name: parts[0], Weight: numbers[0], Bears: numbers[1], Ground: parts[1] == "ground"}
+}
+
+func readTie(things []api.Thing, parts []string) api.Tie {
+	require(len(parts) == 3, api.ErrForm)
+	most, ok := words.Number(parts[2])
+	require(ok, api.ErrForm)
+	from, to := findThing(things, parts[0]), findThing(things, parts[1])
+	require(from >= 0 && to >= 0, api.ErrNone)
+	return api.Tie{From: from, To: to, Most: most}
+}
