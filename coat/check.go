@@ -1,11 +1,11 @@
 package coat
 
 import (
-	"iter"
 	"slices"
 
 	"thatch/api"
 	"thatch/numbers"
+	"thatch/plane"
 )
 
 // finestRow is the greatest divisor of the height of a row.
@@ -49,17 +49,6 @@ func checkHole(h api.Box, ahead []api.Box, outline []api.Pt) api.Errno {
 	return api.OK
 }
 
-// around yields the sides of an outline: from each corner to the next one.
-func around(outline []api.Pt) iter.Seq2[api.Pt, api.Pt] {
-	return func(yield func(api.Pt, api.Pt) bool) {
-		for i, from := range outline {
-			if !yield(from, outline[(i+1)%len(outline)]) {
-				return
-			}
-		}
-	}
-}
-
 // leftOf is above 0 for a point to the left of the line between two others, 0 on it and below 0 to its right.
 func leftOf(from, to, p api.Pt) int {
 	return (to.U-from.U)*(p.V-from.V) - (to.V-from.V)*(p.U-from.U)
@@ -67,7 +56,7 @@ func leftOf(from, to, p api.Pt) int {
 
 func isConvex(outline []api.Pt) bool {
 	flat := true
-	for from, to := range around(outline) {
+	for from, to := range plane.Around(outline) {
 		for _, p := range outline {
 			left := leftOf(from, to, p)
 			if left < 0 {
@@ -84,7 +73,7 @@ func isWithin(outline []api.Pt, p api.Pt) bool {
 	if !isPoint(p) {
 		return false
 	}
-	for from, to := range around(outline) {
+	for from, to := range plane.Around(outline) {
 		if leftOf(from, to, p) <= 0 {
 			return false
 		}

@@ -2,11 +2,11 @@ package coat
 
 import (
 	"iter"
-	"maps"
 	"slices"
 	"sync"
 
 	"thatch/api"
+	"thatch/plane"
 )
 
 // workers is how many goroutines work on the lines of a drawing.
@@ -35,50 +35,21 @@ func draw(a api.Area, c api.Coat) drawing {
 	return d
 }
 
-// heights returns the heights at which sides end or cross, in ascending order. Between two neighbours among them all horizontal lines meet the same sides in the same order.
-func (d drawing) heights() []quotient {
-	all := map[quotient]bool{}
-	for i, s := range d {
-		l := s.path()
-		all[whole(l.foot.V)] = true
-		all[whole(l.top())] = true
-		for _, o := range d[:i] {
-			if v, ok := l.crossing(o.path()); ok {
-				all[v] = true
-			}
-		}
-	}
-	return slices.SortedFunc(maps.Keys(all), quotient.compare)
-}
-
-// lines yields the heights of horizontal lines, from bottom to top, one between any two neighbours of the heights.
-func (d drawing) lines() iter.Seq[quotient] {
-	return func(yield func(quotient) bool) {
-		var below quotient
-		for i, v := range d.heights() {
-			if i > 0 && !yield(below.between(v)) {
-				return
-			}
-			below = v
-		}
-	}
-}
-
 // meeting is where a line meets a side.
 type meeting struct {
-	u    quotient
+	u    plane.Quotient
 	side side
 }
 
 // meetings returns where the line at a height meets sides, from left to right.
-func (d drawing) meetings(v quotient) []meeting {
+func (d drawing) meetings(v plane.Quotient) []meeting {
 	var list []meeting
 	for _, s := range d {
 		if s.meets(v) {
-			list = append(list, meeting{s.at(v), s})
+			list = append(list, meeting{s.At(v), s})
 		}
 	}
-	slices.SortFunc(list, func(a, b meeting) int { return a.u.compare(b.u) })
+	slices.SortFunc(list, func(a, b meeting) int { return a.u.Compare(b.u) })
 	return list
 }
 
@@ -89,20 +60,20 @@ type tally struct{ inside, layers, thick int }
 func (t *tally) pass(s side) {
 	switch x := s.(type) {
 	case stem:
-		t.layers += x.step
-		t.thick += x.step * x.thick
+		t.layers += x.Step()
+		t.thick += x.Step() * x.thick
 	case rim:
-		t.inside += x.step
+		t.inside += x.Step()
 	case jamb:
-		t.inside -= x.step
+		t.inside -= x.Step()
 	}
 }
 
 // pieces yields the parts of the line at a height, from left to right, that are in the area and end where the line meets sides. Side by side two of them may have the same over them.
-func (d drawing) pieces(v quotient) iter.Seq[api.Stretch] {
+func (d drawing) pieces(v plane.Quotient) iter.Seq[api.Stretch] {
 	return func(yield func(api.Stretch) bool) {
 		var t tally
-		var last quotient
+		var last plane.Quotient
 		for _, m := range d.meetings(v) {
 			if t.inside > 0 && last != m.u {
 				piece := api.Stretch{From: api.Ratio(last), To: api.Ratio(m.u), Layers: t.layers, Thick: t.thick}
@@ -117,7 +88,7 @@ func (d drawing) pieces(v quotient) iter.Seq[api.Stretch] {
 }
 
 // stretches returns the pieces of a line, joined where the same lies over neighbours.
-func (d drawing) stretches(v quotient) []api.Stretch {
+func (d drawing) stretches(v plane.Quotient) []api.Stretch {
 	var list []api.Stretch
 	for p := range d.pieces(v) {
 		if n := len(list) - 1; n >= 0 && list[n].To == p.From && list[n].Layers == p.Layers && list[n].Thick == p.Thick {
@@ -137,13 +108,13 @@ type found struct {
 
 // least returns the least size of a piece of all lines, and a spot in the first piece that has it. Over a side lies all that lies beside it, so the points between sides tell the least there is.
 func (d drawing) least(size func(api.Stretch) int) (int, api.Spot) {
-	lines := slices.Collect(d.lines())
-	sent := make(chan found, len(lines))
+	levels := slices.Collect(plane.Levels(d))
+	sent := make(chan found, len(levels))
 	var group sync.WaitGroup
 	for worker := range workers {
 		group.Go(func() {
-			for i := worker; i < len(lines); i += workers {
-				if f, ok := d.leastOf(lines[i], size); ok {
+			for i := worker; i < len(levels); i += workers {
+				if f, ok := d.leastOf(levels[i], size); ok {
 					f.line = i
 					sent <- f
 				}
@@ -162,10 +133,10 @@ func (d drawing) least(size func(api.Stretch) int) (int, api.Spot) {
 }
 
 // leastOf returns the first piece of a line with the least size there, and whether the line has any.
-func (d drawing) leastOf(v quotient, size func(api.Stretch) int) (best found, ok bool) {
+func (d drawing) leastOf(v plane.Quotient, size func(api.Stretch) int) (best found, ok bool) {
 	for p := range d.pieces(v) {
 		if n := size(p); !ok || n < best.size {
-			u := quotient(p.From).between(quotient(p.To))
+			u := plane.Quotient(p.From).Between(plane.Quotient(p.To))
 			best, ok = found{size: n, spot: api.Spot{U: api.Ratio(u), V: api.Ratio(v)}}, true
 		}
 	}
