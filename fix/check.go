@@ -4,46 +4,36 @@ import (
 	"slices"
 
 	"thatch/api"
+	"thatch/fault"
 	"thatch/numbers"
 	"thatch/words"
 )
 
-// require panics with an error, which check and read recover, unless it is so.
-func require(so bool, e api.Errno) {
-	if !so {
-		panic(e)
-	}
-}
-
 // check returns the first error of a net that may have so many ties.
-func check(n api.Net, mostTies int) (e api.Errno) {
-	defer func() {
-		if wrong, ok := recover().(api.Errno); ok {
-			e = wrong
-		}
-	}()
-	requireThings(n.Things)
-	require(len(n.Ties) <= mostTies, api.ErrLimit)
-	requireTies(n)
-	require(!isCircle(n), api.ErrLoop)
-	return api.OK
+func check(n api.Net, mostTies int) api.Errno {
+	return fault.Of(func() {
+		requireThings(n.Things)
+		fault.Unless(len(n.Ties) <= mostTies, api.ErrLimit)
+		requireTies(n)
+		fault.Unless(!isCircle(n), api.ErrLoop)
+	})
 }
 
 func requireThings(things []api.Thing) {
-	require(len(things) <= api.MaxHung, api.ErrLimit)
+	fault.Unless(len(things) <= api.MaxHung, api.ErrLimit)
 	for i, x := range things {
-		require(words.IsName(x.Name), api.ErrName)
-		require(findThing(things[:i], x.Name) < 0, api.ErrTwice)
-		require(numbers.IsFrom(x.Weight, 0, api.MaxWeight) && numbers.IsFrom(x.Bears, 0, api.MaxBears), api.ErrArg)
+		fault.Unless(words.IsName(x.Name), api.ErrName)
+		fault.Unless(findThing(things[:i], x.Name) < 0, api.ErrTwice)
+		fault.Unless(numbers.IsFrom(x.Weight, 0, api.MaxWeight) && numbers.IsFrom(x.Bears, 0, api.MaxBears), api.ErrArg)
 	}
 }
 
 func requireTies(n api.Net) {
 	last := len(n.Things) - 1
 	for _, t := range n.Ties {
-		require(numbers.IsFrom(t.From, 0, last) && numbers.IsFrom(t.To, 0, last), api.ErrNone)
-		require(t.From != t.To && numbers.IsFrom(t.Most, 0, api.MaxBears), api.ErrArg)
-		require(!n.Things[t.From].Ground, api.ErrScope)
+		fault.Unless(numbers.IsFrom(t.From, 0, last) && numbers.IsFrom(t.To, 0, last), api.ErrNone)
+		fault.Unless(t.From != t.To && numbers.IsFrom(t.Most, 0, api.MaxBears), api.ErrArg)
+		fault.Unless(!n.Things[t.From].Ground, api.ErrScope)
 	}
 }
 

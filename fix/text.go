@@ -5,6 +5,7 @@ import (
 	"strings"
 
 	"thatch/api"
+	"thatch/fault"
 	"thatch/words"
 )
 
@@ -27,23 +28,19 @@ func write(n api.Net) string {
 	return text.String()
 }
 
-// read returns the net of a text, which need not be one that may be, or the line that is wrong.
+// read returns the net of a text, which need not be one that may be, or the line that is wrong. words.Parse drops the net if there is an error, and the line if there is none.
 func read(text string) (n api.Net, line int, e api.Errno) {
-	defer func() {
-		if wrong, ok := recover().(api.Errno); ok {
-			e = wrong
+	e = fault.Of(func() {
+		for number, s := range words.Lines(text) {
+			line = number
+			readLine(&n, strings.Split(s, " "))
 		}
-	}()
-	var d api.Net
-	for number, s := range words.Lines(text) {
-		line = number
-		readLine(&d, strings.Split(s, " "))
-	}
-	return d, 0, api.OK
+	})
+	return n, line, e
 }
 
 func readLine(n *api.Net, parts []string) {
-	require(!slices.Contains(parts, ""), api.ErrForm)
+	fault.Unless(!slices.Contains(parts, ""), api.ErrForm)
 	switch {
 	case parts[0] == "thing" && len(n.Ties) == 0:
 		n.Things = append(n.Things, readThing(parts[1:]))
@@ -55,17 +52,17 @@ func readLine(n *api.Net, parts []string) {
 }
 
 func readThing(parts []string) api.Thing {
-	require(len(parts) == 4 && (parts[1] == "ground" || parts[1] == "hung"), api.ErrForm)
+	fault.Unless(len(parts) == 4 && (parts[1] == "ground" || parts[1] == "hung"), api.ErrForm)
 	numbers, ok := words.Numbers(parts[2:])
-	require(ok, api.ErrForm)
+	fault.Unless(ok, api.ErrForm)
 	return api.Thing{Name: parts[0], Weight: numbers[0], Bears: numbers[1], Ground: parts[1] == "ground"}
 }
 
 func readTie(things []api.Thing, parts []string) api.Tie {
-	require(len(parts) == 3, api.ErrForm)
+	fault.Unless(len(parts) == 3, api.ErrForm)
 	most, ok := words.Number(parts[2])
-	require(ok, api.ErrForm)
+	fault.Unless(ok, api.ErrForm)
 	from, to := findThing(things, parts[0]), findThing(things, parts[1])
-	require(from >= 0 && to >= 0, api.ErrNone)
+	fault.Unless(from >= 0 && to >= 0, api.ErrNone)
 	return api.Tie{From: from, To: to, Most: most}
 }

@@ -4,6 +4,7 @@ import (
 	"slices"
 
 	"thatch/api"
+	"thatch/fault"
 	"thatch/numbers"
 	"thatch/words"
 )
@@ -59,32 +60,25 @@ func named(a api.Chore) api.Chore {
 	return only
 }
 
-// require panics with an error, which Do recovers, unless it is so.
-func require(so bool, e api.Errno) {
-	if !so {
-		panic(e)
-	}
-}
-
 func (h *hand) do(a api.Chore) {
 	chore, known := chores()[a.Kind]
-	require(known && a == named(a), api.ErrArg)
+	fault.Unless(known && a == named(a), api.ErrArg)
 	chore(h, a)
 }
 
 func (h *hand) year(api.Chore) {
-	require(h.store.Year < api.MaxYear, api.ErrLimit)
+	fault.Unless(h.store.Year < api.MaxYear, api.ErrLimit)
 	h.store.Year++
 }
 
 func (h *hand) cut(a api.Chore) {
 	s := &h.store
-	require(numbers.IsFrom(a.Plot, 0, len(h.farm.Plots)-1), api.ErrNone)
+	fault.Unless(numbers.IsFrom(a.Plot, 0, len(h.farm.Plots)-1), api.ErrNone)
 	h.requireNew(a.Name)
 	p := h.farm.Plots[a.Plot]
-	require(s.Last[a.Plot] < 0 || s.Last[a.Plot] <= s.Year-p.Rest, api.ErrState)
-	require(a.Loads != 0 && numbers.IsFrom(a.Loads, p.Size*p.Yield.Low, p.Size*p.Yield.High), api.ErrArg)
-	require(len(s.Heaps) < api.MaxHeaps && allLoads(*s)+a.Loads <= api.MaxLoads, api.ErrLimit)
+	fault.Unless(s.Last[a.Plot] < 0 || s.Last[a.Plot] <= s.Year-p.Rest, api.ErrState)
+	fault.Unless(a.Loads != 0 && numbers.IsFrom(a.Loads, p.Size*p.Yield.Low, p.Size*p.Yield.High), api.ErrArg)
+	fault.Unless(len(s.Heaps) < api.MaxHeaps && allLoads(*s)+a.Loads <= api.MaxLoads, api.ErrLimit)
 	s.Last[a.Plot] = s.Year
 	s.Given[a.Plot] += a.Loads
 	parts := []api.Portion{{Plot: a.Plot, Loads: a.Loads}}
@@ -93,8 +87,8 @@ func (h *hand) cut(a api.Chore) {
 
 func (h *hand) dry(a api.Chore) {
 	heap := &h.store.Heaps[h.find(a.Name)]
-	require(heap.Stage != api.HpBound, api.ErrState)
-	require(numbers.IsFrom(a.Days, 0, mostDays) && numbers.IsSpan(a.Rain, 0, mostRains), api.ErrArg)
+	fault.Unless(heap.Stage != api.HpBound, api.ErrState)
+	fault.Unless(numbers.IsFrom(a.Days, 0, mostDays) && numbers.IsSpan(a.Rain, 0, mostRains), api.ErrArg)
 	low := heap.Wet.Low - mostDried*a.Days + leastWet*a.Rain.Low
 	high := heap.Wet.High - leastDried*a.Days + mostWet*a.Rain.High
 	heap.Wet = api.Span{Low: moisture(low), High: moisture(high)}
@@ -103,17 +97,17 @@ func (h *hand) dry(a api.Chore) {
 func (h *hand) comb(a api.Chore) {
 	i := h.find(a.Name)
 	heap := &h.store.Heaps[i]
-	require(heap.Stage == api.HpCut && h.isDry(*heap), api.ErrState)
-	require(numbers.IsFrom(a.Loads, 0, loadsOf(heap.Parts)-1), api.ErrArg)
+	fault.Unless(heap.Stage == api.HpCut && h.isDry(*heap), api.ErrState)
+	fault.Unless(numbers.IsFrom(a.Loads, 0, loadsOf(heap.Parts)-1), api.ErrArg)
 	heap.Stage = api.HpCombed
 	h.store.Waste = h.move(i, a.Loads, h.store.Waste)
 }
 
 func (h *hand) join(a api.Chore) {
 	i, k := h.find(a.Name), h.find(a.Other)
-	require(i != k, api.ErrClash)
+	fault.Unless(i != k, api.ErrClash)
 	heap, other := &h.store.Heaps[i], h.store.Heaps[k]
-	require(heap.Crop == other.Crop && heap.Stage == other.Stage && heap.Stage != api.HpBound, api.ErrState)
+	fault.Unless(heap.Crop == other.Crop && heap.Stage == other.Stage && heap.Stage != api.HpBound, api.ErrState)
 	heap.Parts = put(heap.Parts, slices.Values(other.Parts))
 	heap.Wet = api.Span{Low: min(heap.Wet.Low, other.Wet.Low), High: max(heap.Wet.High, other.Wet.High)}
 	h.remove(k)
@@ -123,13 +117,13 @@ func (h *hand) bind(a api.Chore) {
 	i := h.find(a.Name)
 	h.requireNew(a.Other)
 	heap := h.store.Heaps[i]
-	require(heap.Stage == api.HpCombed && h.isDry(heap), api.ErrState)
-	require(numbers.IsFrom(a.Per, 1, api.MaxPer), api.ErrArg)
+	fault.Unless(heap.Stage == api.HpCombed && h.isDry(heap), api.ErrState)
+	fault.Unless(numbers.IsFrom(a.Per, 1, api.MaxPer), api.ErrArg)
 	loads := loadsOf(heap.Parts)
 	over := loads % a.Per
-	require(loads >= a.Per, api.ErrScope)
+	fault.Unless(loads >= a.Per, api.ErrScope)
 	// A heap that is bound without a rest makes room for the new one.
-	require(over == 0 || len(h.store.Heaps) < api.MaxHeaps, api.ErrLimit)
+	fault.Unless(over == 0 || len(h.store.Heaps) < api.MaxHeaps, api.ErrLimit)
 	bound := api.Heap{Name: a.Other, Crop: heap.Crop, Stage: api.HpBound, Per: a.Per, Wet: heap.Wet}
 	bound.Parts = h.move(i, loads-over, nil)
 	h.store.Heaps = append(h.store.Heaps, bound)
@@ -138,29 +132,29 @@ func (h *hand) bind(a api.Chore) {
 func (h *hand) use(a api.Chore) {
 	i := h.find(a.Name)
 	heap := h.store.Heaps[i]
-	require(heap.Stage == api.HpBound, api.ErrState)
-	require(numbers.IsFrom(a.Loads, 1, loadsOf(heap.Parts)/heap.Per), api.ErrArg)
+	fault.Unless(heap.Stage == api.HpBound, api.ErrState)
+	fault.Unless(numbers.IsFrom(a.Loads, 1, loadsOf(heap.Parts)/heap.Per), api.ErrArg)
 	h.store.Used = h.move(i, a.Loads*heap.Per, h.store.Used)
 }
 
 func (h *hand) rot(a api.Chore) {
 	i := h.find(a.Name)
 	heap := h.store.Heaps[i]
-	require(!h.isDry(heap), api.ErrState)
+	fault.Unless(!h.isDry(heap), api.ErrState)
 	h.store.Waste = h.move(i, loadsOf(heap.Parts), h.store.Waste)
 }
 
 // find returns the place of the heap with a name.
 func (h *hand) find(name string) int {
 	i := findHeap(h.store.Heaps, name)
-	require(i >= 0, api.ErrNone)
+	fault.Unless(i >= 0, api.ErrNone)
 	return i
 }
 
 // requireNew requires that a new heap can have this name.
 func (h *hand) requireNew(name string) {
-	require(words.IsName(name), api.ErrName)
-	require(findHeap(h.store.Heaps, name) < 0, api.ErrTwice)
+	fault.Unless(words.IsName(name), api.ErrName)
+	fault.Unless(findHeap(h.store.Heaps, name) < 0, api.ErrTwice)
 }
 
 func (h *hand) isDry(heap api.Heap) bool { return heap.Wet.High <= h.farm.Dry }
