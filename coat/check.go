@@ -18,20 +18,7 @@ func checkOutline(outline []api.Pt) api.Errno {
 	if len(outline) < 3 {
 		return api.ErrArg
 	}
-	for _, p := range outline {
-		if !isPoint(p) {
-			return api.ErrArg
-		}
-	}
-	for i, p := range outline {
-		if slices.Contains(outline[:i], p) {
-			return api.ErrTwice
-		}
-	}
-	if !isConvex(outline) {
-		return api.ErrScope
-	}
-	return api.OK
+	return plane.CheckCorners(outline)
 }
 
 func checkHole(h api.Box, ahead []api.Box, outline []api.Pt) api.Errno {
@@ -39,7 +26,7 @@ func checkHole(h api.Box, ahead []api.Box, outline []api.Pt) api.Errno {
 		return api.ErrArg
 	}
 	for _, p := range [4]api.Pt{h.From, {U: h.To.U, V: h.From.V}, h.To, {U: h.From.U, V: h.To.V}} {
-		if !isWithin(outline, p) {
+		if plane.Inside(outline, p) <= 0 {
 			return api.ErrScope
 		}
 	}
@@ -47,38 +34,6 @@ func checkHole(h api.Box, ahead []api.Box, outline []api.Pt) api.Errno {
 		return api.ErrClash
 	}
 	return api.OK
-}
-
-// leftOf is above 0 for a point to the left of the line between two others, 0 on it and below 0 to its right.
-func leftOf(from, to, p api.Pt) int {
-	return (to.U-from.U)*(p.V-from.V) - (to.V-from.V)*(p.U-from.U)
-}
-
-func isConvex(outline []api.Pt) bool {
-	flat := true
-	for from, to := range plane.Around(outline) {
-		for _, p := range outline {
-			left := leftOf(from, to, p)
-			if left < 0 {
-				return false
-			}
-			flat = flat && left == 0
-		}
-	}
-	return !flat
-}
-
-// isWithin reports whether a point is strictly inside of an outline. It looks at the limits first: a hole may have any numbers, and their products need not fit.
-func isWithin(outline []api.Pt, p api.Pt) bool {
-	if !isPoint(p) {
-		return false
-	}
-	for from, to := range plane.Around(outline) {
-		if leftOf(from, to, p) <= 0 {
-			return false
-		}
-	}
-	return true
 }
 
 // boxesMeet reports whether two boxes have a point in common, their edges included.
@@ -105,8 +60,4 @@ func isSpot(s api.Spot) bool { return isPlace(s.U, api.MaxFiner) && isPlace(s.V,
 // isPlace reports whether a quotient is a place of a face, in lowest terms, with a divisor up to finest.
 func isPlace(r api.Ratio, finest int) bool {
 	return numbers.IsFrom(r.Den, 1, finest) && numbers.IsFrom(r.Num, 0, api.MaxPlace*r.Den) && r == numbers.LowestTerms(r.Num, r.Den)
-}
-
-func isPoint(p api.Pt) bool {
-	return numbers.IsFrom(p.U, 0, api.MaxPlace) && numbers.IsFrom(p.V, 0, api.MaxPlace)
 }

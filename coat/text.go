@@ -10,13 +10,9 @@ import (
 func write(c api.Coat) string {
 	var text strings.Builder
 	for _, k := range c.Courses {
-		text.WriteString("course")
-		words.WriteNumbers(&text, k.V)
-		text.WriteString("\n")
+		words.WriteLine(&text, "course", k.V)
 		for _, b := range k.Bundles {
-			text.WriteString("bundle")
-			words.WriteNumbers(&text, b.U, b.Width, b.Length, b.Lean, b.Taper, b.Thick)
-			text.WriteString("\n")
+			words.WriteLine(&text, "bundle", b.U, b.Width, b.Length, b.Lean, b.Taper, b.Thick)
 		}
 	}
 	return text.String()

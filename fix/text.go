@@ -16,14 +16,10 @@ func write(n api.Net) string {
 		if x.Ground {
 			kind = " ground"
 		}
-		text.WriteString("thing " + x.Name + kind)
-		words.WriteNumbers(&text, x.Weight, x.Bears)
-		text.WriteString("\n")
+		words.WriteLine(&text, "thing "+x.Name+kind, x.Weight, x.Bears)
 	}
 	for _, t := range n.Ties {
-		text.WriteString("tie " + n.Things[t.From].Name + " " + n.Things[t.To].Name)
-		words.WriteNumbers(&text, t.Most)
-		text.WriteString("\n")
+		words.WriteLine(&text, "tie "+n.Things[t.From].Name+" "+n.Things[t.To].Name, t.Most)
 	}
 	return text.String()
 }

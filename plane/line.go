@@ -1,4 +1,4 @@
-// Package plane has what areas and bundles are drawn with: straight lines that lead up, where they are at a height, and the heights between which they neither end nor cross.
+// Package plane has what areas and bundles are drawn with: outlines, straight lines that lead up, where they are at a height, and the heights between which they neither end nor cross.
 package plane
 
 import (

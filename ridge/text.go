@@ -14,9 +14,7 @@ const firstPiece = 2
 
 func write(r api.Ridge) string {
 	var text strings.Builder
-	text.WriteString("ridge")
-	words.WriteNumbers(&text, r.Length, r.Start, r.End)
-	text.WriteString("\n")
+	words.WriteLine(&text, "ridge", r.Length, r.Start, r.End)
 	for _, p := range r.Pieces {
 		text.WriteString("piece " + p.Name)
 		words.WriteNumbers(&text, p.Width, p.Left, p.Right)

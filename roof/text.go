@@ -22,9 +22,7 @@ func write(r api.Roof) string {
 		text.WriteString("\n")
 	}
 	for _, o := range r.Opens {
-		text.WriteString("open " + o.Name + " " + r.Faces[o.Face].Name)
-		words.WriteNumbers(&text, o.Low.X, o.Low.Y, o.High.X, o.High.Y)
-		text.WriteString("\n")
+		words.WriteLine(&text, "open "+o.Name+" "+r.Faces[o.Face].Name, o.Low.X, o.Low.Y, o.High.X, o.High.Y)
 	}
 	return text.String()
 }

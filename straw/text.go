@@ -13,13 +13,9 @@ func cropWords() []string { return []string{"reed", "straw", "heather"} }
 
 func write(f api.Farm) string {
 	var text strings.Builder
-	text.WriteString("farm")
-	words.WriteNumbers(&text, f.Dry)
-	text.WriteString("\n")
+	words.WriteLine(&text, "farm", f.Dry)
 	for _, p := range f.Plots {
-		text.WriteString("field " + p.Name + " " + cropWords()[p.Crop-api.CrReed])
-		words.WriteNumbers(&text, p.Size, p.Yield.Low, p.Yield.High, p.Rest, p.Wet.Low, p.Wet.High, p.Cost)
-		text.WriteString("\n")
+		words.WriteLine(&text, "field "+p.Name+" "+cropWords()[p.Crop-api.CrReed], p.Size, p.Yield.Low, p.Yield.High, p.Rest, p.Wet.Low, p.Wet.High, p.Cost)
 	}
 	return text.String()
 }

@@ -98,6 +98,13 @@ func Numbers(list []string) ([]int, bool) {
 	return numbers, true
 }
 
+// WriteLine adds a line to a text: some words, and behind them numbers.
+func WriteLine(text *strings.Builder, words string, numbers ...int) {
+	text.WriteString(words)
+	WriteNumbers(text, numbers...)
+	text.WriteString("\n")
+}
+
 // WriteNumbers adds numbers to a line, each with a blank ahead of it.
 func WriteNumbers(text *strings.Builder, numbers ...int) {
 	for _, n := range numbers {

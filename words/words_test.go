@@ -88,6 +88,16 @@ func TestNumbers(t *testing.T) {
 	}
 }
 
+func TestWriteLine(t *testing.T) {
+	var text strings.Builder
+	words.WriteLine(&text, "a b", 1, -20)
+	words.WriteLine(&text, "c")
+	words.WriteLine(&text, "", 0)
+	if text.String() != "a b 1 -20\nc\n 0\n" {
+		t.Errorf("%q", text.String())
+	}
+}
+
 func TestWriteNumbers(t *testing.T) {
 	var text strings.Builder
 	text.WriteString("a")
