@@ -24,18 +24,10 @@ func write(n api.Net) string {
 	return text.String()
 }
 
-// read returns the net of a text, which need not be one that may be, or the line that is wrong. words.Parse drops the net if there is an error, and the line if there is none.
-func read(text string) (n api.Net, line int, e api.Errno) {
-	e = fault.Of(func() {
-		for number, s := range words.Lines(text) {
-			line = number
-			readLine(&n, strings.Split(s, " "))
-		}
-	})
-	return n, line, e
-}
+// read returns the net of a text, which need not be one that may be, or the line that is wrong.
+func read(text string) (api.Net, int, api.Errno) { return words.Read(text, readLine) }
 
-func readLine(n *api.Net, parts []string) {
+func readLine(n *api.Net, _ int, parts []string) {
 	fault.Unless(!slices.Contains(parts, ""), api.ErrForm)
 	switch {
 	case parts[0] == "thing" && len(n.Ties) == 0:

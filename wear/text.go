@@ -23,23 +23,22 @@ func write(s api.Skin) string {
 	return text.String()
 }
 
-// read returns the skin of a text, which need not be one that may be, or the line that is wrong. words.Parse drops the skin if there is an error, and the line if there is none.
-func read(text string) (s api.Skin, line int, e api.Errno) {
-	e = fault.Of(func() {
-		fault.Unless(text != "", api.ErrForm)
-		for number, l := range words.Lines(text) {
-			line = number
-			parts := strings.Split(l, " ")
-			n, ok := words.Numbers(parts[1:])
-			fault.Unless(ok, api.ErrForm)
-			if line == 1 {
-				readSkin(&s, parts[0], n)
-			} else {
-				readPart(&s, parts[0], n)
-			}
-		}
-	})
-	return s, line, e
+// read returns the skin of a text, which need not be one that may be, or the line that is wrong.
+func read(text string) (api.Skin, int, api.Errno) {
+	if text == "" {
+		return api.Skin{}, 0, api.ErrForm
+	}
+	return words.Read(text, readLine)
+}
+
+func readLine(s *api.Skin, line int, parts []string) {
+	n, ok := words.Numbers(parts[1:])
+	fault.Unless(ok, api.ErrForm)
+	if line == 1 {
+		readSkin(s, parts[0], n)
+	} else {
+		readPart(s, parts[0], n)
+	}
 }
 
 func readSkin(s *api.Skin, word string, n []int) {

@@ -7,6 +7,7 @@ import (
 	"strings"
 
 	"thatch/api"
+	"thatch/fault"
 )
 
 // maxDigits is how many digits a number in a text may have.
@@ -50,6 +51,21 @@ func Parse[T any](text string, read func(string) (T, int, api.Errno), check func
 	}
 	if e := check(value); e != api.OK {
 		return none, 0, e
+	}
+	return value, 0, api.OK
+}
+
+// Read returns the value that take makes of the lines of a text, one by one, from the zero value on. It is given their numbers, from 1 on, and their words; what it panics with is the error of its line. With an error the value is none.
+func Read[T any](text string, take func(value *T, line int, parts []string)) (value T, line int, e api.Errno) {
+	e = fault.Of(func() {
+		for number, s := range Lines(text) {
+			line = number
+			take(&value, line, strings.Split(s, " "))
+		}
+	})
+	if e != api.OK {
+		var none T
+		return none, line, e
 	}
 	return value, 0, api.OK
 }

@@ -6,6 +6,7 @@ import (
 	"testing"
 
 	"thatch/api"
+	"thatch/fault"
 	"thatch/words"
 )
 
@@ -160,6 +161,33 @@ func TestParse(t *testing.T) {
 	} {
 		if n, line, e := words.Parse(c.text, read, even); n != c.n || line != c.line || e != c.want {
 			t.Error(len(c.text), n, line, e)
+		}
+	}
+}
+
+func TestRead(t *testing.T) {
+	take := func(l *[][]string, line int, parts []string) {
+		fault.Unless(!slices.Contains(parts, "?"), api.ErrName)
+		fault.Unless(line < 4, api.ErrLoop)
+		*l = append(*l, parts)
+	}
+	for _, c := range []struct {
+		text string
+		want [][]string
+		line int
+		e    api.Errno
+	}{
+		{"", nil, 0, api.OK},
+		{"a", [][]string{{"a"}}, 0, api.OK},
+		{"a\n", [][]string{{"a"}}, 0, api.OK},
+		{"a b\n\nc  d", [][]string{{"a", "b"}, {""}, {"c", "", "d"}}, 0, api.OK},
+		{"?\n", nil, 1, api.ErrName},
+		{"a\nb ?\n? c", nil, 2, api.ErrName},
+		{"a\nb\nc\nd", nil, 4, api.ErrLoop},
+		{"a\nb\nc\n? d\ne", nil, 4, api.ErrName},
+	} {
+		if l, line, e := words.Read(c.text, take); !slices.EqualFunc(l, c.want, slices.Equal[[]string]) || line != c.line || e != c.e {
+			t.Errorf("%q: %q %d %d", c.text, l, line, e)
 		}
 	}
 }
