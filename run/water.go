@@ -6,6 +6,7 @@ import (
 	"slices"
 
 	"thatch/api"
+	"thatch/waiting"
 )
 
 // flow is where water goes, from a wear on.
@@ -52,14 +53,14 @@ func (w water) wet(wear int) (bundles []int, leaks bool) {
 // needs returns the need of each of so many bundles, and of the battens.
 func (w water) needs(count int) (bundles []int, battens int) {
 	bundles, battens = slices.Repeat([]int{-1}, count), -1
-	next := waiting[flow]{compare: func(a, b flow) int { return cmp.Compare(a.wear, b.wear) }}
+	next := waiting.NewHeap(func(a, b flow) int { return cmp.Compare(a.wear, b.wear) })
 	runOn := func(from, wear int) {
 		for _, f := range w[from] {
-			next.push(flow{f.to, max(f.wear, wear)})
+			next.Push(flow{f.to, max(f.wear, wear)})
 		}
 	}
 	runOn(api.RnRain, 0)
-	for f := range next.least() {
+	for f := range next.Least {
 		switch to := f.to.(type) {
 		case batten:
 			if battens < 0 {
@@ -78,11 +79,11 @@ func (w water) needs(count int) (bundles []int, battens int) {
 // way returns the bundles through which water comes to a batten with a wear: the fewest, of several ways with so many the least list. It wants a wear that is enough.
 func (w water) way(wear int) []int {
 	var found []int
-	next := waiting[[]int]{compare: compareWays}
-	next.push(nil)
+	next := waiting.NewHeap(compareWays)
+	next.Push(nil)
 	seen := map[int]bool{}
 search:
-	for way := range next.least() {
+	for way := range next.Least {
 		from := endOf(way)
 		if seen[from] {
 			continue search
@@ -97,7 +98,7 @@ search:
 				found = way
 				break search
 			case bundle:
-				next.push(append(slices.Clip(way), int(to)))
+				next.Push(append(slices.Clip(way), int(to)))
 			}
 		}
 	}
