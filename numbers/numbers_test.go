@@ -41,6 +41,20 @@ func TestIsSpan(t *testing.T) {
 	}
 }
 
+func TestRise(t *testing.T) {
+	for _, c := range []struct {
+		list []int
+		want bool
+	}{
+		{nil, true}, {[]int{7}, true}, {[]int{-1, 0, 5}, true}, {[]int{math.MinInt, math.MaxInt}, true},
+		{[]int{3, 3}, false}, {[]int{0, 1, 1}, false}, {[]int{1, 1, 2}, false}, {[]int{2, 1, 3}, false}, {[]int{1, 3, 2}, false}, {[]int{math.MaxInt, math.MinInt}, false},
+	} {
+		if numbers.Rise(c.list) != c.want {
+			t.Error(c)
+		}
+	}
+}
+
 func TestLowestTerms(t *testing.T) {
 	for _, c := range []struct{ num, den, wantNum, wantDen int }{
 		{17, 12, 17, 12}, {12, 18, 2, 3}, {18, 12, 3, 2}, {-12, 18, -2, 3}, {-18, 12, -3, 2},
