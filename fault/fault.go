@@ -10,6 +10,15 @@ func Unless(so bool, e api.Errno) {
 	}
 }
 
+// Raise panics with an error, which Of and Answer recover, unless it is OK.
+func Raise(e api.Errno) { Unless(e == api.OK, e) }
+
+// Must returns a value that came without an error, or panics with the error.
+func Must[T any](value T, e api.Errno) T {
+	Raise(e)
+	return value
+}
+
 // Of returns the error with which something that is done panics, or OK.
 func Of(do func()) (e api.Errno) {
 	defer func() {

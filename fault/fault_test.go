@@ -51,3 +51,38 @@ func TestAnswer(t *testing.T) {
 		t.Error(list, e)
 	}
 }
+
+func TestRaise(t *testing.T) {
+	for _, e := range []api.Errno{api.OK, api.ErrArg, api.ErrSum} {
+		went := false
+		got := fault.Of(func() {
+			fault.Raise(e)
+			went = true
+		})
+		if got != e || went != (e == api.OK) {
+			t.Error(e, got, went)
+		}
+	}
+}
+
+func TestMust(t *testing.T) {
+	half := func(n int) (int, api.Errno) {
+		if n%2 != 0 {
+			return n, api.ErrArg
+		}
+		return n / 2, api.OK
+	}
+	for _, c := range []struct {
+		n, want int
+		e       api.Errno
+	}{
+		{28, 7, api.OK},
+		{14, 0, api.ErrArg},
+		{7, 0, api.ErrArg},
+	} {
+		n, e := fault.Answer(func() int { return fault.Must(half(fault.Must(half(c.n)))) })
+		if n != c.want || e != c.e {
+			t.Error(c, n, e)
+		}
+	}
+}

@@ -54,19 +54,19 @@ func (d *draft) readLine(line int, parts []string) {
 	g := &d.ground
 	switch parts[0] {
 	case "ground":
-		g.Base = numbersBehind(parts, 1, 1)[0]
+		g.Base = words.NumbersBehind(parts, 1, 1)[0]
 		d.numbers = map[string]int{}
 	case "site":
-		numbersBehind(parts, 2, 0)
+		words.NumbersBehind(parts, 2, 0)
 		d.addSite(parts[1])
 	case "path":
-		n := numbersBehind(parts, 3, 2)
+		n := words.NumbersBehind(parts, 3, 2)
 		g.Paths = append(g.Paths, api.Path{From: d.site(parts[1]), To: d.site(parts[2]), Time: api.Span{Low: n[0], High: n[1]}})
 	case "strip":
-		n := numbersBehind(parts, 3, max(2, len(parts)-3))
+		n := words.NumbersBehind(parts, 3, max(2, len(parts)-3))
 		g.Strips = append(g.Strips, api.Strip{Name: parts[1], Site: d.site(parts[2]), At: n[0], Work: n[1], Paths: n[2:]})
 	case "spark":
-		n := numbersBehind(parts, 2, 1)
+		n := words.NumbersBehind(parts, 2, 1)
 		g.Sparks = append(g.Sparks, api.Spark{Site: d.site(parts[1]), Time: n[0]})
 	}
 }
@@ -84,12 +84,4 @@ func (d *draft) site(name string) int {
 	number, ok := d.numbers[name]
 	fault.Unless(ok, api.ErrNone)
 	return number
-}
-
-// numbersBehind returns the numbers of a line behind some words. It panics unless there are just so many of both.
-func numbersBehind(parts []string, some, count int) []int {
-	fault.Unless(len(parts) == some+count, api.ErrForm)
-	list, ok := words.Numbers(parts[some:])
-	fault.Unless(ok, api.ErrForm)
-	return list
 }

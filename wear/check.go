@@ -21,8 +21,7 @@ func requireSkin(s api.Skin) {
 
 func requireArea(a api.Area) {
 	fault.Unless(numbers.IsFrom(len(a.Outline), 3, api.MaxCorners), api.ErrArg)
-	e := plane.CheckCorners(a.Outline)
-	fault.Unless(e == api.OK, e)
+	fault.Raise(plane.CheckCorners(a.Outline))
 	fault.Unless(len(a.Holes) <= api.MaxHoles, api.ErrLimit)
 	for _, h := range a.Holes {
 		fault.Unless(h.From.U < h.To.U && h.From.V < h.To.V, api.ErrArg)

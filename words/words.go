@@ -114,6 +114,14 @@ func Numbers(list []string) ([]int, bool) {
 	return numbers, true
 }
 
+// NumbersBehind returns the numbers of a line behind some words. It panics, as Read wants it, unless there are just so many of both.
+func NumbersBehind(parts []string, some, count int) []int {
+	fault.Unless(len(parts) == some+count, api.ErrForm)
+	list, ok := Numbers(parts[some:])
+	fault.Unless(ok, api.ErrForm)
+	return list
+}
+
 // WriteLine adds a line to a text: some words, and behind them numbers.
 func WriteLine(text *strings.Builder, words string, numbers ...int) {
 	text.WriteString(words)

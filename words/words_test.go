@@ -89,6 +89,31 @@ func TestNumbers(t *testing.T) {
 	}
 }
 
+func TestNumbersBehind(t *testing.T) {
+	for _, c := range []struct {
+		line        string
+		some, count int
+		want        []int
+		e           api.Errno
+	}{
+		{"a 1 -2", 1, 2, []int{1, -2}, api.OK},
+		{"a 1 2", 2, 1, []int{2}, api.OK},
+		{"a x", 2, 0, nil, api.OK},
+		{"7", 0, 1, []int{7}, api.OK},
+		{"a 1", 1, 2, nil, api.ErrForm},
+		{"a 1 2 3", 1, 2, nil, api.ErrForm},
+		{"a", 2, 0, nil, api.ErrForm},
+		{"a 1 x", 1, 2, nil, api.ErrForm},
+		{"a 1 ", 1, 2, nil, api.ErrForm},
+		{"a 01", 1, 1, nil, api.ErrForm},
+	} {
+		l, e := fault.Answer(func() []int { return words.NumbersBehind(strings.Split(c.line, " "), c.some, c.count) })
+		if e != c.e || !slices.Equal(l, c.want) {
+			t.Errorf("%q: %v %d", c.line, l, e)
+		}
+	}
+}
+
 func TestWriteLine(t *testing.T) {
 	var text strings.Builder
 	words.WriteLine(&text, "a b", 1, -20)
